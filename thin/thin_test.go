@@ -108,6 +108,23 @@ func runs(inside map[api.Cell]bool, dx, dy int) [][]api.Cell {
 	return l
 }
 
+// coveredBySquares returns the cells that squares of 3 times 3 cells cover.
+func coveredBySquares(inside map[api.Cell]bool) map[api.Cell]bool {
+	covered := map[api.Cell]bool{}
+	for c := range inside {
+		whole := true
+		for i := range 9 {
+			whole = whole && inside[api.Cell{X: c.X + i%3, Y: c.Y + i/3}]
+		}
+		for i := range 9 {
+			if whole {
+				covered[api.Cell{X: c.X + i%3, Y: c.Y + i/3}] = true
+			}
+		}
+	}
+	return covered
+}
+
 // P25.1 to P25.5.
 func TestAnyRegion(t *testing.T) {
 	random := rand.New(rand.NewSource(25))
@@ -137,18 +154,7 @@ func TestAnyRegion(t *testing.T) {
 		if !region.Same(region.Union(wide, thin), r) || len(region.Intersect(wide, thin).Rows) != 0 || !region.Same(again, wide) || len(none.Rows) != 0 {
 			t.Errorf("Split of\n%sis %v and %v, and then %v and %v", picture, wide, thin, again, none)
 		}
-		covered := map[api.Cell]bool{}
-		for c := range inside {
-			whole := true
-			for i := range 9 {
-				whole = whole && inside[api.Cell{X: c.X + i%3, Y: c.Y + i/3}]
-			}
-			for i := range 9 {
-				if whole {
-					covered[api.Cell{X: c.X + i%3, Y: c.Y + i/3}] = true
-				}
-			}
-		}
+		covered := coveredBySquares(inside)
 		if region.Count(wide) != len(covered) {
 			t.Errorf("Split of\n%shas %d wide cells; want %d", picture, region.Count(wide), len(covered))
 		}
