@@ -9,6 +9,7 @@ import (
 	"testing"
 
 	"additive/api"
+	"additive/courier"
 )
 
 // check returns a text with the XOR of its bytes.
@@ -341,7 +342,7 @@ func TestAnyWay(t *testing.T) {
 				}
 				d, net = next, append(net, reply)
 			}
-			if e != api.OK || !validHost(h) || h.Base > d.Want || !slices.Equal(accepted, lines[:d.Want-1]) {
+			if e != api.OK || !courier.Valid(h) || h.Base > d.Want || !slices.Equal(accepted, lines[:d.Want-1]) {
 				t.Fatalf("the device has accepted %v, the host is %v", accepted, h)
 			}
 		}
