@@ -43,21 +43,6 @@ func Frame(n int, text string) string {
 	return sealed("N" + num.Format(n) + " " + text)
 }
 
-// Number returns the number from 0 to MaxCount + 1 that is written in decimal; false if there is none.
-func Number(s string) (int, bool) {
-	n := 0
-	for i, digit := range s {
-		if digit < '0' || digit > '9' || i > 0 && n == 0 {
-			return 0, false
-		}
-		n = 10*n + int(digit-'0')
-		if n > api.MaxCount+1 {
-			return 0, false
-		}
-	}
-	return n, s != ""
-}
-
 // Reply returns the packet with an answer.
 func Reply(word string, n int) api.Packet {
 	return api.Packet{Back: true, Text: sealed(word + " " + num.Format(n))}
@@ -67,9 +52,9 @@ func Reply(word string, n int) api.Packet {
 func readReply(text string) (string, int, bool) {
 	body, _, _ := strings.Cut(text, "*")
 	word, digits, _ := strings.Cut(body, " ")
-	n, isNumber := Number(digits)
+	n, e := num.Parse(digits)
 	known := word == Ok || word == Resend
-	return word, n, known && isNumber && Reply(word, n).Text == text
+	return word, n, known && e == api.OK && n >= 0 && n <= api.MaxCount+1 && Reply(word, n).Text == text
 }
 
 // Valid reports whether h is valid.

@@ -34,10 +34,6 @@ func expect(t *testing.T, name string, f api.Firmware, line int, c api.Cmd, e ap
 	}
 }
 
-func line(n int) func(*api.Firmware) {
-	return func(f *api.Firmware) { f.Line = n }
-}
-
 // faulty returns a firmware with a fault of the nozzle's guard.
 func faulty(t *testing.T) api.Firmware {
 	f, _, _ := Tick(busy(t), [2]int{300000, 60000})

@@ -45,10 +45,6 @@ type shape func(dx, dy, k int) bool
 func square(dx, dy, k int) bool  { return max(dx, -dx) <= k && max(dy, -dy) <= k }
 func diamond(dx, dy, k int) bool { return max(dx, -dx)+max(dy, -dy) <= k }
 
-func onGrid(c api.Cell) bool {
-	return c.X >= -edge && c.X < edge && c.Y >= -edge && c.Y < edge
-}
-
 // around calls visit for each cell of the shape of c.
 func around(c api.Cell, k int, in shape, visit func(api.Cell)) {
 	for dx := -k; dx <= k; dx++ {

@@ -65,7 +65,8 @@ func TestAnyLayers(t *testing.T) {
 		var l []api.Region
 		var sets []uint
 		for range random.Intn(7) {
-			sets = append(sets, uint(random.Intn(1<<16))|uint(random.Intn(1<<16)))
+			few, more := random.Intn(1<<16), random.Intn(1<<16)
+			sets = append(sets, uint(few|more))
 			l = append(l, cells(sets[len(sets)-1]))
 		}
 		i, top, bottom := random.Intn(9)-1, random.Intn(5)-1, random.Intn(5)-1
