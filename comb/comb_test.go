@@ -63,6 +63,8 @@ func TestPaths(t *testing.T) {
 		// Around a hole, to the right first; and around the end of a wall.
 		{read(0, 0, "###", "#.#", "###"), cell(0, 1), cell(2, 1), cells(0, 1, 0, 2, 1, 2, 2, 2, 2, 1), cells(0, 1, 0, 2, 1, 2, 2, 2, 2, 1)},
 		{read(0, 0, "###", "#.#", "#.#"), cell(0, 0), cell(2, 0), cells(0, 0, 0, 1, 0, 2, 1, 2, 2, 2, 2, 1, 2, 0), cells(0, 0, 0, 1, 0, 2, 1, 2, 2, 2, 2, 1, 2, 0)},
+		{read(0, 0, "###", "#.#", "###"), cell(1, 0), cell(1, 2), cells(1, 0, 2, 0, 2, 1, 2, 2, 1, 2), cells(1, 0, 2, 0, 2, 1, 2, 2, 1, 2)},
+		{read(0, 0, "###", "#.#", "###"), cell(1, 2), cell(1, 0), cells(1, 2, 2, 2, 2, 1, 2, 0, 1, 0), cells(1, 2, 2, 2, 2, 1, 2, 0, 1, 0)},
 		// The search meets the goal on a way with more turns than needed.
 		{read(0, 0, "####", "##.#", "####"), cell(0, 0), cell(3, 2), cells(0, 0, 1, 0, 2, 0, 3, 0, 3, 1, 3, 2), cells(0, 0, 1, 0, 2, 0, 3, 0, 3, 1, 3, 2)},
 		{read(0, 0, "..#", "###", "##."), cell(0, 0), cell(2, 2), cells(0, 0, 1, 0, 1, 1, 2, 1, 2, 2), cells(0, 0, 0, 1, 1, 1, 2, 1, 2, 2)},

@@ -54,7 +54,7 @@ func TestWrongArguments(t *testing.T) {
 		e    api.Errno
 	}{
 		"next line": {f, 2, cmd(api.CoFanOff), api.OK}, "operator": {f, 0, cmd(api.CoFanOff), api.OK}, "same line": {f, 1, cmd(api.CoFanOff), api.ErrArg}, "later line": {f, 3, cmd(api.CoFanOff), api.ErrArg}, "negative line": {f, -1, cmd(api.CoFanOff), api.ErrArg},
-		"least line": {f, math.MinInt, cmd(api.CoStop), api.ErrArg}, "beyond": {late, 1<<40 + 1, cmd(api.CoFanOff), api.ErrArg}, "at the bound": {late, 0, cmd(api.CoFanOff), api.OK},
+		"least line": {f, math.MinInt, cmd(api.CoStop), api.ErrArg}, "last line": {changed(late, func(f *api.Firmware) { f.Line-- }), 1 << 40, cmd(api.CoFanOff), api.OK}, "beyond": {late, 1<<40 + 1, cmd(api.CoFanOff), api.ErrArg}, "at the bound": {late, 0, cmd(api.CoFanOff), api.OK},
 		"no command": {f, 2, api.Cmd{Code: 2}, api.ErrArg}, "wrong command": {f, 2, api.Cmd{Code: api.CoStop, S: 1}, api.ErrArg}, "not valid": {changed(f, func(f *api.Firmware) { f.Fan = 256 }), 2, cmd(api.CoFanOff), api.ErrArg}, "zero": {api.Firmware{}, 1, cmd(api.CoStop), api.ErrArg},
 	} {
 		expect(t, name, q.f, q.line, q.c, q.e, func(f *api.Firmware) {
@@ -91,6 +91,11 @@ func TestSimpleCommands(t *testing.T) {
 	expect(t, "M25 in a pause", paused, 2, cmd(api.CoPause), api.ErrState, nil)
 	expect(t, "M999", warm, 2, cmd(api.CoReset), api.ErrState, nil)
 	expect(t, "M106 while moving", busy(t), 5, cmd(api.CoFan, api.HasS, 1), api.OK, func(f *api.Firmware) { f.Line, f.Fan = 5, 1 })
+	moving := busy(t)
+	shared := do(t, moving, cmd(api.CoFanOff))
+	if shared.Queue[0].Accel, shared.Lines[0] = 7, 7; moving.Queue[0].Accel == 7 || moving.Lines[0] == 7 {
+		t.Error("Accept shares the queue")
+	}
 	expect(t, "G4 while moving", busy(t), 5, cmd(api.CoDwell, api.HasS, 1), api.ErrFull, nil)
 	expect(t, "G28 while moving", busy(t), 5, cmd(api.CoHome), api.ErrFull, nil)
 	queued := do(t, f, cmd(api.CoTravel, api.HasX, 1))
@@ -156,6 +161,12 @@ func TestStop(t *testing.T) {
 	expect(t, "not homed", unknown, 1, cmd(api.CoStop), api.OK, stopped(1, position{5, 6, 7, 8}, true))
 	returning := changed(f, func(f *api.Firmware) { f.Active, f.Lines, f.Return, f.Line = 0, []int{0, 7}, position{9, 9, 9, 9}, 8 })
 	expect(t, "returning", returning, 9, cmd(api.CoStop), api.OK, stopped(6, position{9, 9, 9, 9}, true))
+	alone := changed(f, func(f *api.Firmware) { f.Active, f.Return = 0, position{9, 9, 9, 9} })
+	expect(t, "returning before a line", alone, 0, cmd(api.CoStop), api.OK, stopped(2, position{9, 9, 9, 9}, true))
+	first := changed(f, func(f *api.Firmware) { f.Active, f.Lines = 1, []int{2, 3} })
+	expect(t, "moving in line 1", first, 0, cmd(api.CoStop), api.OK, stopped(0, began, true))
+	waiting := changed(queued, func(f *api.Firmware) { f.Lines, f.Pos = []int{1}, position{} })
+	expect(t, "line 1 waits", waiting, 0, cmd(api.CoStop), api.OK, stopped(0, position{}, true))
 	about := changed(queued, func(f *api.Firmware) { f.Lines, f.Return, f.Line = []int{0}, position{9, 9, 9, 9}, 8 })
 	expect(t, "about to return", about, 0, cmd(api.CoStop), api.OK, stopped(8, position{9, 9, 9, 9}, true))
 	expect(t, "in a fault", faulty(t), 0, cmd(api.CoStop), api.OK, func(f *api.Firmware) { f.Guards[0].Fault, f.Guards[1].Fault = api.FaStop, api.FaStop })
@@ -172,6 +183,10 @@ func TestReset(t *testing.T) {
 	})
 	both := changed(cool, func(f *api.Firmware) { f.Guards[1].Fault = api.FaStop })
 	expect(t, "the other one is cold", both, 0, cmd(api.CoReset), api.ErrFault, nil)
+	bed := changed(both, func(f *api.Firmware) { f.Guards[0].Fault, f.Readings[1] = 0, 30000 })
+	expect(t, "only the other one", bed, 0, cmd(api.CoReset), api.OK, func(f *api.Firmware) {
+		f.Mode, f.Guards[1].Fault, f.Guards[1].Base, f.Guards[1].Count = api.MoRun, 0, 30000, 0
+	})
 	none := changed(cool, func(f *api.Firmware) { f.Guards[0].Fault = 0; f.Readings[0] = 0 })
 	expect(t, "no guard with a fault", none, 0, cmd(api.CoReset), api.OK, func(f *api.Firmware) { f.Mode = api.MoRun })
 }
@@ -202,12 +217,18 @@ func TestMoveErrors(t *testing.T) {
 		"cold": {cold, 2, cmd(api.CoPrint, api.HasX, 5, api.HasE, 1), api.ErrCold}, "cold, and too far": {cold, 2, cmd(api.CoPrint, api.HasE, 1<<30), api.ErrCold}, "too far": {f, 2, cmd(api.CoPrint, api.HasE, 1<<24+1), api.ErrLimit}, "too far back": {cold, 2, cmd(api.CoPrint, api.HasE, -1<<30), api.ErrLimit},
 		"fine": {fine, 2, cmd(api.CoTravel, api.HasX, 16778), api.ErrLimit}, "sum too far": {changed(core, func(f *api.Firmware) { f.Machine.Axes[0].Num, f.Machine.Axes[1].Num = 500, 500 }), 2, cmd(api.CoTravel, api.HasX, 20000, api.HasY, 20000), api.ErrLimit},
 		"difference too far": {changed(f, func(f *api.Firmware) { f.Pos[3] = 1 << 23 }), 2, cmd(api.CoPrint, api.HasE, -1<<23-1), api.ErrLimit},
+		"target too far":     {changed(f, func(f *api.Firmware) { f.Pos[3] = 1<<24 - 10 }), 2, cmd(api.CoPrint, api.HasE, 1<<24+5), api.ErrLimit},
 		"full":               {full, full.Line + 1, cmd(api.CoTravel, api.HasX, 1), api.ErrFull}, "full, and outside": {full, full.Line + 1, cmd(api.CoTravel, api.HasX, -1), api.ErrRange}, "full, and too far": {full, full.Line + 1, cmd(api.CoPrint, api.HasE, 1<<30), api.ErrLimit},
 	} {
 		expect(t, name, q.f, q.line, q.c, q.e, nil)
 	}
 	expect(t, "full, but nothing to do", full, full.Line+1, cmd(api.CoTravel, api.HasF, 7), api.OK, func(f *api.Firmware) { f.Line++; f.Feed = 7 })
 	expect(t, "cold, but backward", changed(cold, func(f *api.Firmware) { f.E = 5 }), 2, cmd(api.CoPrint, api.HasE, 0), api.OK, func(f *api.Firmware) { f.Line, f.E = 2, 0 })
+	expect(t, "cold, but without extrusion", cold, 2, cmd(api.CoPrint, api.HasE, 0), api.OK, func(f *api.Firmware) { f.Line = 2 })
+	warm := changed(f, func(f *api.Firmware) { f.Readings[0] = 170000 })
+	if got, e := Accept(warm, 2, cmd(api.CoPrint, api.HasE, 1)); e != api.OK || len(got.Queue) != 1 {
+		t.Errorf("warm enough: error %d", e)
+	}
 	expect(t, "at the limit", changed(f, func(f *api.Firmware) { f.Pos[3] = 1 << 23 }), 2, cmd(api.CoPrint, api.HasE, -1<<23, api.HasF, 3), api.OK, func(f *api.Firmware) {
 		f.Line, f.E, f.Feed, f.Lines = 2, -1<<23, 3, []int{2}
 		f.Queue = []api.Block{{Counts: position{3: -1 << 24}, Accel: 100000, Cruise: 36}} // of 8388608 units and 16777216 steps
@@ -242,12 +263,12 @@ func TestMove(t *testing.T) {
 		at           api.Vec
 		e            int
 	}{
-		{cmd(api.CoTravel, api.HasX, 100, api.HasZ, 7), position{200, 0, 7}, 100, 0, api.Vec{X: 100, Z: 7}, 0},
-		{cmd(api.CoPrint, api.HasX, 130, api.HasY, 40, api.HasE, 3, api.HasF, 60), position{60, 40, 0, 8}, 50, 60, api.Vec{X: 130, Y: 40, Z: 7}, 3},
-		{cmd(api.CoPrint, api.HasE, 8), position{0, 0, 0, 12}, 5, 60, api.Vec{X: 130, Y: 40, Z: 7}, 8},
-		{cmd(api.CoPrint, api.HasE, 2), position{0, 0, 0, -15}, 6, 60, api.Vec{X: 130, Y: 40, Z: 7}, 2},
-		{cmd(api.CoTravel, api.HasX, 160, api.HasF, 90), position{60}, 30, 90, api.Vec{X: 160, Y: 40, Z: 7}, 2},
-		{cmd(api.CoTravel, api.HasX, 190), position{60}, 30, 90, api.Vec{X: 190, Y: 40, Z: 7}, 2},
+		{cmd(api.CoTravel, api.HasX, 100, api.HasZ, 70, api.HasF, 20), position{200, 0, 70}, 122, 20, api.Vec{X: 100, Z: 70}, 0},
+		{cmd(api.CoPrint, api.HasX, 130, api.HasY, 40, api.HasE, 3, api.HasF, 60), position{60, 40, 0, 8}, 50, 60, api.Vec{X: 130, Y: 40, Z: 70}, 3},
+		{cmd(api.CoPrint, api.HasE, 8), position{0, 0, 0, 12}, 5, 60, api.Vec{X: 130, Y: 40, Z: 70}, 8},
+		{cmd(api.CoPrint, api.HasE, 2), position{0, 0, 0, -15}, 6, 60, api.Vec{X: 130, Y: 40, Z: 70}, 2},
+		{cmd(api.CoTravel, api.HasX, 160, api.HasF, 90), position{60}, 30, 90, api.Vec{X: 160, Y: 40, Z: 70}, 2},
+		{cmd(api.CoTravel, api.HasX, 190), position{60}, 30, 90, api.Vec{X: 190, Y: 40, Z: 70}, 2},
 	} {
 		f = do(t, f, q.c)
 		add(q.counts, q.length, q.feed)
@@ -265,8 +286,20 @@ func TestMove(t *testing.T) {
 	if again.Motion != moving.Motion || again.Queue[0].Entry != moving.Motion.Block.Exit || again.Queue[4].Exit == 0 {
 		t.Errorf("while moving, the plan is %v", again.Queue)
 	}
-	slow := changed(moving, func(f *api.Firmware) { f.Motion.Block.Exit = f.Motion.Block.Cruise; f.Queue, f.Lines = nil, nil })
-	if _, e := Accept(slow, slow.Line+1, cmd(api.CoTravel, api.HasX, 101)); e != api.ErrLimit {
+	// Between two blocks, the speed at which the next one begins is fixed.
+	between := homed(t)
+	for _, x := range []int{100, 200, 201} {
+		between = do(t, between, cmd(api.CoTravel, api.HasX, x))
+	}
+	for between = ticks(between, 1); between.Moving; between = ticks(between, 1) {
+	}
+	entry := between.Queue[0].Entry
+	if more := do(t, between, cmd(api.CoTravel, api.HasX, 900)); entry == 0 || more.Queue[0].Entry != entry || more.Queue[1].Exit == between.Queue[1].Exit {
+		t.Errorf("between two blocks, the plan is %v", more.Queue)
+	}
+	fast, _ := Begin(do(t, homed(t), cmd(api.CoTravel, api.HasX, 1000)))
+	fast.Motion.Block.Exit = fast.Motion.Block.Cruise
+	if _, e := Accept(fast, fast.Line+1, cmd(api.CoTravel, api.HasX, 1001)); e != api.ErrLimit {
 		t.Errorf("a block in which it cannot stop: error %d", e)
 	}
 }
@@ -281,6 +314,7 @@ func TestHome(t *testing.T) {
 	expect(t, "first", f, 1, cmd(api.CoHome), api.OK, func(f *api.Firmware) { origin(f); f.Line = 1 })
 	expect(t, "operator", f, 0, cmd(api.CoHome), api.OK, origin)
 	again := changed(f, func(f *api.Firmware) { f.Homed = true })
+	expect(t, "with a place, but not back", changed(again, func(f *api.Firmware) { f.Return = position{5, 6, 7, 8} }), 1, cmd(api.CoHome), api.OK, func(f *api.Firmware) { origin(f); f.Line = 1 })
 	expect(t, "of the program, homed", again, 1, cmd(api.CoHome), api.OK, func(f *api.Firmware) { origin(f); f.Line = 1 })
 	block := func(f *api.Firmware, counts position) api.Block {
 		speed := limits.Speed(f.Machine, counts, 0, f.Feed)

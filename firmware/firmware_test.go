@@ -168,6 +168,8 @@ func TestValidMotions(t *testing.T) {
 		"negative active":      {func(f *api.Firmware) { f.Active = -1 }, false},
 		"returning":            {func(f *api.Firmware) { f.Active = 0 }, true},
 		"not homed":            {func(f *api.Firmware) { f.Homed = false }, false},
+		"moving, not homed":    {func(f *api.Firmware) { f.Homed, f.Queue, f.Lines = false, nil, nil }, false},
+		"queue, not homed":     {func(f *api.Firmware) { f.Homed, f.Moving, f.Motion, f.Active = false, false, api.Motion{}, 0 }, false},
 		"fault":                {func(f *api.Firmware) { f.Mode = api.MoFault }, false},
 		"paused":               {func(f *api.Firmware) { f.Mode = api.MoPause }, true},
 		"goal far":             {func(f *api.Firmware) { f.Queue[1].Counts[1] = 1<<24 - 50 }, true},

@@ -155,6 +155,19 @@ func TestFailAndPower(t *testing.T) {
 	}
 }
 
+// P51.4 to P51.6: the results have lists of pages of their own.
+func TestNewMemory(t *testing.T) {
+	f := memory(2)
+	written, _ := Write(f, 0, page("a"))
+	refused, _ := Write(f, 5, page("a"))
+	for i, got := range []api.Flash{written, refused, Fail(f, 1, 1), Fail(f, 0, 0), Power(f)} {
+		got.Pages[1] = "x"
+		if f.Pages[1] == "x" {
+			t.Fatalf("memory %d shares its pages", i)
+		}
+	}
+}
+
 // P51.3 to P51.6: any operations, compared with a model.
 func TestAnyOperations(t *testing.T) {
 	random := rand.New(rand.NewSource(51))

@@ -101,17 +101,31 @@ func TestProgramExamples(t *testing.T) {
 	}
 }
 
+// columns returns parts with more single cells than a layer may have tracks.
+func columns() []api.Mesh {
+	var parts []api.Mesh
+	for i := range 13 {
+		var m api.Mesh
+		for k := range 320 {
+			m, _ = mesh.Join(m, box(2*(k%80), 8*i+2*(k/80), 0, 1, 1, 1))
+		}
+		parts = append(parts, m)
+	}
+	return parts
+}
+
 // P57.2, P57.3: the errors, in their order.
 func TestErrors(t *testing.T) {
 	open := api.Mesh{Verts: []api.Vec{{}, {X: 1}, {Y: 1}}, Tris: []api.Tri{{A: 0, B: 1, C: 2}}}
 	negative, _ := shapes.Box(api.Vec{X: -400, Y: 0, Z: 0}, api.Vec{X: 80, Y: 80, Z: 40})
 	wide, _ := shapes.Box(api.Vec{X: 1000}, api.Vec{X: 64536, Y: 80, Z: 40})
-	supported, coarse, brim, small, tall, fine := settings(), settings(), settings(), machine(), machine(), settings()
-	supported.Support = true
+	coarse, brim, small, deep, tall, fine, walled := settings(), settings(), machine(), machine(), machine(), settings(), settings()
 	coarse.Height = 21
 	brim.Brim = 64
 	small.Axes[0].Max = 99
+	deep.Axes[1].Max = 99
 	tall.Axes[2].Max = 39
+	walled.Walls = 9
 	fine.Drop = 1
 	for i, q := range []struct {
 		parts         []api.Mesh
@@ -121,7 +135,8 @@ func TestErrors(t *testing.T) {
 	}{
 		{[]api.Mesh{box(1, 1, 0, 2, 2, 2)}, settings(), machine(), api.OK, api.OK}, {[]api.Mesh{open}, settings(), machine(), api.ErrOpen, api.ErrOpen}, {[]api.Mesh{open}, coarse, machine(), api.ErrArg, api.ErrArg},
 		{[]api.Mesh{mesh.Reverse(box(1, 1, 0, 2, 2, 2))}, settings(), machine(), api.ErrArg, api.ErrArg}, {[]api.Mesh{negative}, settings(), machine(), api.OK, api.ErrRange}, {[]api.Mesh{wide}, settings(), machine(), api.OK, api.ErrRange},
-		{[]api.Mesh{box(1, 1, 0, 2, 2, 2)}, settings(), small, api.OK, api.ErrRange}, {[]api.Mesh{box(1, 1, 0, 2, 2, 2)}, settings(), tall, api.OK, api.ErrRange}, {[]api.Mesh{box(1, 1, 0, 2, 2, 1)}, settings(), tall, api.OK, api.OK},
+		{[]api.Mesh{box(1, 1, 0, 2, 2, 2)}, settings(), small, api.OK, api.ErrRange}, {[]api.Mesh{box(1, 1, 0, 2, 2, 2)}, settings(), deep, api.OK, api.ErrRange}, {[]api.Mesh{open}, walled, machine(), api.ErrArg, api.ErrArg}, {nil, walled, machine(), api.ErrArg, api.ErrArg}, {columns(), settings(), machine(), api.ErrLimit, api.ErrLimit},
+		{[]api.Mesh{box(1, 1, 0, 2, 2, 2)}, settings(), tall, api.OK, api.ErrRange}, {[]api.Mesh{box(1, 1, 0, 2, 2, 1)}, settings(), tall, api.OK, api.OK},
 		{[]api.Mesh{box(1, 1, 0, 400, 400, 4)}, fine, machine(), api.OK, api.ErrRange}, // E is too great
 		{[]api.Mesh{box(1, 1, 0, 2, 2, 2)}, brim, machine(), api.OK, api.ErrRange},
 	} {
@@ -133,11 +148,11 @@ func TestErrors(t *testing.T) {
 			t.Errorf("case %d: Program: error %d; want %d", i, e, q.program)
 		}
 	}
-	// Supports are dilated, which fails at the border of the grid; without supports it does not matter.
-	far := api.Settings{Pitch: 32, Height: 20, Spacing: 2, Reach: 64, Gap: 64, Drop: 1000, Feed: 4000, Travel: 8000, MinFeed: 40}
-	border, _ := shapes.Box(api.Vec{X: 65536 - 64}, api.Vec{X: 64, Y: 64, Z: 40})
-	if _, _, _, e := Plan([]api.Mesh{border}, far); e != api.OK {
-		t.Errorf("Plan without supports: error %d", e)
+	// The position before the first command with a coordinate does not matter.
+	away := machine()
+	away.Axes[0].Min = 10
+	if l, _, e := Program(nil, settings(), away); e != api.OK || len(l) != 8 {
+		t.Errorf("Program of no parts: %d commands, error %d", len(l), e)
 	}
 }
 
@@ -232,7 +247,7 @@ func TestMade(t *testing.T) {
 	}{
 		{nil, nil}, {[]api.Op{printed(1, 1)}, nil}, {[]api.Op{begin(0)}, []api.Region{{}}}, {[]api.Op{begin(2), printed(1, 1, 1, 2), begin(0), printed(5, 5)}, []api.Region{cells(5, 5), {}, cells(1, 1, 1, 2)}},
 		{[]api.Op{begin(0), printed(1, 1), begin(1), begin(0), printed(2, 2, 1, 1)}, []api.Region{cells(1, 1, 2, 2), {}}}, {[]api.Op{begin(-1), printed(1, 1)}, nil}, {[]api.Op{begin(256), printed(1, 1), begin(math.MaxInt), begin(math.MinInt)}, nil},
-		{[]api.Op{begin(255), printed(1, 1)}, append(make([]api.Region, 255), cells(1, 1))}, {[]api.Op{begin(0), printed(edge, 1, 3, 3, 0, -edge-1, math.MaxInt, math.MinInt)}, []api.Region{cells(3, 3)}},
+		{[]api.Op{begin(255), printed(1, 1)}, append(make([]api.Region, 255), cells(1, 1))}, {[]api.Op{begin(0), printed(edge, 1, 3, 3, 0, -edge-1, 0, edge, -edge-1, 0, -edge, -edge, math.MaxInt, math.MinInt)}, []api.Region{cells(3, 3, -edge, -edge)}},
 		{[]api.Op{begin(0), printed(1, 1), begin(256), printed(2, 2), begin(1)}, []api.Region{cells(1, 1), {}}},
 	} {
 		if got := Made(q.l); !inspect.Equal(got, q.want) {

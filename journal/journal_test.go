@@ -164,6 +164,12 @@ func TestAppendErrors(t *testing.T) {
 		if e != q.e || e != api.OK && !same(f, q.f) || !slices.Equal(q.f.Pages, given) {
 			t.Errorf("case %d: Append = %v, %d; want %d", i, f, e, q.e)
 		}
+		if e != api.OK && len(f.Pages) > 0 {
+			f.Pages[0] = "x"
+			if q.f.Pages[0] == "x" {
+				t.Errorf("case %d: the result shares its pages", i)
+			}
+		}
 		if last, _ := Last(f); e == api.OK && last != q.r {
 			t.Errorf("case %d: the last record is %v", i, last)
 		}

@@ -88,7 +88,7 @@ func TestOpenErrors(t *testing.T) {
 		"N03 G28*18": api.ErrSyntax, "N3 G28*016": api.ErrSyntax, "N3 G28*256": api.ErrSyntax, "N3 G28*-16": api.ErrSyntax, "N3 G28*": api.ErrSyntax, "N3 G28": api.ErrSyntax, "N3 G28*16 ": api.ErrSyntax, "N3 G28*16*": api.ErrSyntax,
 		"N3 G28**16": api.ErrSyntax, "n3 G28*48": api.ErrSyntax, "3 G28*94": api.ErrSyntax, " N3 G28*48": api.ErrSyntax, "N3G28*48": api.ErrSyntax, "N G28*35": api.ErrSyntax, "N-3 G28*61": api.ErrSyntax, "": api.ErrSyntax, "*": api.ErrSyntax, "N": api.ErrSyntax, "N3": api.ErrSyntax,
 		"N3*125": api.ErrSyntax, check("N0 G28"): api.ErrSyntax, check("N1099511627777 G28"): api.ErrSyntax, check("N99999999999999999999 G28"): api.ErrSyntax, check("N3 a\tb"): api.ErrSyntax, check("N3 \xff"): api.ErrSyntax,
-		check("N3 " + strings.Repeat("x", 97)): api.ErrSyntax, "N3 G28*1\u0666": api.ErrSyntax, check("N\u0663 G28"): api.ErrSyntax, "N3 G28*99999999999999999999": api.ErrSyntax, check("N+3 G28"): api.ErrSyntax, "N3 G28*+16": api.ErrSyntax, "\xff\xfe": api.ErrSyntax,
+		check("N3 " + strings.Repeat("x", 97)): api.ErrSyntax, "N3 G28*1\u0666": api.ErrSyntax, check("N\u0663 G28"): api.ErrSyntax, "N3 G28*99999999999999999999": api.ErrSyntax, check("N+3 G28"): api.ErrSyntax, check("N18446744073709551619 G28"): api.ErrSyntax, "N3 G28*18446744073709551632": api.ErrSyntax, "N3 G28*+16": api.ErrSyntax, "\xff\xfe": api.ErrSyntax,
 	} {
 		if n, text, e := Open(s); n != 0 || text != "" || e != want {
 			t.Errorf("Open(%q) = %d, %q, %d; want %d", s, n, text, e, want)
@@ -172,6 +172,24 @@ func TestSend(t *testing.T) {
 		if got, p, ok := Send(h); !same(got, h) || p != (api.Packet{}) || ok {
 			t.Errorf("Send of invalid host %d: %v, %v", i, p, ok)
 		}
+	}
+}
+
+// P47.4, P47.5, P47.6: the results have lists of lines of their own, and as many lines as are allowed.
+func TestNewHosts(t *testing.T) {
+	h := host(2, 3, 4)
+	sent, _, _ := Send(h)
+	idle, _, _ := Send(host(4, 4, 4))
+	again, _ := Again(h, 1)
+	for i, got := range []api.Host{sent, idle, again, Answer(h, back("ok 2")), Answer(h, api.Packet{})} {
+		got.Lines[0] = "x"
+		if h.Lines[0] != "a" {
+			t.Fatalf("host %d shares its lines", i)
+		}
+	}
+	full := api.Host{Lines: make([]string, 1<<16), Base: 1, Next: 1, Window: 1}
+	if _, _, ok := Send(full); !ok {
+		t.Error("a full host sends nothing")
 	}
 }
 

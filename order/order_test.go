@@ -194,6 +194,9 @@ func TestInvalid(t *testing.T) {
 			t.Errorf("from %v: Best %v, %d", from, got, e)
 		}
 	}
+	if from := (api.Cell{X: -edge, Y: -edge}); Cost(from, l) != 2*edge+5+4 || len(Greedy(from, l)) != 2 || len(Improve(from, l, 1)) != 2 {
+		t.Errorf("from %v: Cost %d, Greedy %v", from, Cost(from, l), Greedy(from, l))
+	}
 	bad := []api.Track{{}, l[0], open(0, 0, 2, 0), l[1], {Role: api.RoWall}}
 	from := api.Cell{X: 7}
 	if Cost(from, bad) != 2+4 || !equal(Greedy(from, bad), Greedy(from, l)) || !equal(Improve(from, bad, 9), Improve(from, l, 9)) {

@@ -1,6 +1,7 @@
 package parts
 
 import (
+	"cmp"
 	"math"
 	"math/rand"
 	"slices"
@@ -88,6 +89,11 @@ func TestPartsOfPictures(t *testing.T) {
 			t.Errorf("Fill of\n%sis %v", region.Picture(q.r), got)
 		}
 	}
+}
+
+// compare orders cells by Y, then X.
+func compare(a, b api.Cell) int {
+	return cmp.Or(cmp.Compare(a.Y, b.Y), cmp.Compare(a.X, b.X))
 }
 
 // flood returns the sets of the cells of a map that are connected by steps, ordered by their first cells.

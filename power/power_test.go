@@ -100,10 +100,11 @@ func started(t *testing.T) (api.Firmware, api.Flash) {
 // P54.1: commands other than G28, and errors.
 func TestAcceptOtherCommands(t *testing.T) {
 	f, l := started(t)
+	f, l = do(t, f, l, move(50, 9, 0))
 	for _, q := range []struct {
 		line int
 		c    api.Cmd
-	}{{8, move(5, 5, 5)}, {0, api.Cmd{Code: api.CoStop}}, {8, api.Cmd{Code: api.CoPause}}, {9, move(5, 5, 5)}, {8, home()}, {8, api.Cmd{Code: api.CoReset}}, {8, api.Cmd{Code: 3}}, {8, api.Cmd{Code: api.CoHome, S: 1}}} {
+	}{{8, move(5, 5, 5)}, {9, move(5, 5, 5)}, {0, api.Cmd{Code: api.CoStop}}, {8, api.Cmd{Code: api.CoPause}}, {9, move(5, 5, 5)}, {8, home()}, {8, api.Cmd{Code: api.CoReset}}, {8, api.Cmd{Code: 3}}, {8, api.Cmd{Code: api.CoHome, S: 1}}} {
 		want, e := firmware.Accept(f, q.line, q.c)
 		if e != api.OK {
 			want = f
@@ -177,14 +178,16 @@ func TestTick(t *testing.T) {
 	f, l = do(t, f, l, move(50, 30, 10))
 	returning := f
 	returning.Lines, returning.Return, returning.Line = []int{0, 0}, position{9, 8, 7, 6}, 5
-	mixed := f
+	mixed, first := f, f
 	mixed.Lines, mixed.Return = []int{0, 3}, position{9, 8, 7, 6}
+	first.Lines = []int{1, 3}
 	for i, q := range []struct {
 		f api.Firmware
 		r api.Record
 	}{
 		{f, api.Record{Kind: api.ReBlock, Line: 2, To: position{100, 40}}},
 		{returning, api.Record{Kind: api.ReBlock, Line: 6, From: position{9, 8, 7, 6}, To: position{9, 8, 7, 6}}},
+		{first, api.Record{Kind: api.ReBlock, Line: 1, To: position{100, 40}}},
 		{mixed, api.Record{Kind: api.ReBlock, Line: 3, From: position{9, 8, 7, 6}, To: position{9, 8, 7, 6}}},
 	} {
 		want, wantPulses, wantDuties := firmware.Tick(q.f, [2]int{200000, 60000})
@@ -357,7 +360,7 @@ func TestRecoverErrors(t *testing.T) {
 		e api.Errno
 	}{
 		{f, record(position{far - 1}, position{}), api.OK}, {f, record(position{far}, position{}), api.ErrCorrupt}, {f, record(position{}, position{0, -far}), api.ErrCorrupt}, {f, record(position{2: 1 << 23}, position{2: -1<<23 - 1}), api.ErrCorrupt},
-		{f, record(position{2: 1 << 23}, position{2: -1 << 23}), api.OK}, {f, record(position{3: -1 << 31}, position{3: -1 << 31}), api.ErrCorrupt}, {f, dead, api.ErrPower}, {f, flash.Fail(memory(), 0, 0), api.ErrPower},
+		{f, record(position{2: 1 << 23}, position{2: -1 << 23}), api.OK}, {f, record(position{3: -1 << 31}, position{3: -1 << 31}), api.ErrCorrupt}, {f, record(position{far - 1}, position{far}), api.ErrCorrupt}, {f, record(position{-far}, position{1 - far}), api.ErrCorrupt}, {f, dead, api.ErrPower}, {f, flash.Fail(memory(), 0, 0), api.ErrPower},
 		{homed, dead, api.ErrArg}, {dwelling, dead, api.ErrArg}, {bad, dead, api.ErrArg}, {busy, memory(), api.ErrArg}, {api.Firmware{}, memory(), api.ErrArg}, {f, api.Flash{}, api.ErrArg},
 	} {
 		if got, e := Recover(q.f, q.l); e != q.e || e != api.OK && !same(got, api.Firmware{}) {
@@ -448,8 +451,11 @@ func recoverFrom(t *testing.T, f api.Firmware, l api.Flash, random *rand.Rand) a
 		t.Fatalf("Recover = %v, %d", got, e)
 	}
 	open := firstOpen(f)
-	if recorded && f.Moving && f.Active > 0 {
-		open++
+	if f.Moving && f.Active > 0 {
+		open = f.Active
+		if recorded {
+			open++
+		}
 	}
 	if got.Line+1 > open {
 		t.Fatalf("%v is recovered with line %d", f, got.Line)

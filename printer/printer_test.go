@@ -154,7 +154,7 @@ func TestPart(t *testing.T) {
 		e api.Errno
 	}{
 		{w, api.Step{Kind: api.WsPart, Name: "ball"}, api.ErrUnknown}, {w, api.Step{Kind: api.WsPart}, api.ErrUnknown}, {w, box(), api.ErrArg}, {w, box(1, 2, 3, 4, 5), api.ErrArg}, {w, box(1, 2, 3, 4, 5, 6, 7), api.ErrArg}, {w, box(1, 2, 3, 4, 5, 0), api.ErrArg},
-		{w, box(1, 2, 3, 4, 5, 1<<17), api.ErrRange}, {w, api.Step{Kind: api.WsPart, Name: "prism", Numbers: []int{5}}, api.ErrArg}, {w, api.Step{Kind: api.WsPart, Name: "prism", Numbers: []int{5, 6}}, api.ErrArg},
+		{w, box(1, 2, 3, 4, 5, 1<<17), api.ErrRange}, {w, api.Step{Kind: api.WsPart, Name: "prism", Numbers: []int{5}}, api.ErrArg}, {w, api.Step{Kind: api.WsPart, Name: "prism"}, api.ErrArg}, {w, api.Step{Kind: api.WsPart, Name: "prism", Numbers: []int{5, 6}}, api.ErrArg},
 		{w, api.Step{Kind: api.WsPart, Name: "prism", Numbers: []int{5, 60, 0, 0, 100, 0, 0}}, api.ErrArg}, {w, api.Step{Kind: api.WsPart, Name: "prism", Numbers: []int{5, 60, 0, 0, 100, 0, 0, 1 << 20}}, api.ErrRange},
 		{w, api.Step{Kind: api.WsPart, Name: "pyramid", Numbers: []int{5, 7, 8}}, api.ErrArg}, {w, api.Step{Kind: api.WsPart, Name: "pyramid", Numbers: []int{5, 7, 8, 90, 0, 0, 100, 0, 0}}, api.ErrArg}, {w, api.Step{Kind: api.WsPart, Name: "pyramid"}, api.ErrArg},
 		{w, api.Step{Kind: api.WsPart, Name: "pyramid", Numbers: []int{5, 7, 8, 90}}, api.ErrArg}, {full, box(0, 0, 0, 1, 1, 1), api.ErrFull}, {full, box(0, 0, 0, 1, 1, 0), api.ErrArg}, {full, api.Step{Kind: api.WsPart, Name: "x"}, api.ErrUnknown},
@@ -282,6 +282,9 @@ func TestBench(t *testing.T) {
 	if mended := do(t, broken, step(api.WsSensor, 0, 1), step(api.WsTicks, 2)); mended.Bench.Broken != [2]bool{} || mended.Firmware.Readings[1] != 20000 {
 		t.Errorf("the readings are %v", mended.Firmware.Readings)
 	}
+	if nozzle := do(t, w, step(api.WsSensor, 1, 0), step(api.WsFeed, 1)); nozzle.Bench.Broken != [2]bool{true, false} || nozzle.Bench.Filament != 1 {
+		t.Errorf("the bench is %v", nozzle.Bench)
+	}
 	open := do(t, w, step(api.WsDoor, 1))
 	if !open.Bench.Door || !open.Firmware.Guards[0].Door || !open.Firmware.Guards[1].Door {
 		t.Error("the door is closed")
@@ -294,7 +297,7 @@ func TestBench(t *testing.T) {
 		t.Error("the door is open")
 	}
 	off := do(t, w, step(api.WsOff), step(api.WsDoor, 1), step(api.WsTicks, 2), step(api.WsFeed, 5))
-	if off.Bench.Temps[0] >= 22805 || !off.Bench.Door || !same(api.World{Firmware: off.Firmware}, api.World{}) || off.Bench.Filament != 5 {
+	if off.Bench.Temps[0] >= 22805 || !off.Bench.Door || !same(api.World{Firmware: off.Firmware, Device: off.Device}, api.World{}) || off.Bench.Filament != 5 {
 		t.Errorf("without power: %v", off)
 	}
 	if on := do(t, off, step(api.WsOn)); on.Firmware.Guards[0] != guard.Door(fresh().Firmware.Guards[0], true) || !on.Firmware.Guards[1].Door {
@@ -323,7 +326,7 @@ func TestBench(t *testing.T) {
 // P58.2: the panel.
 func TestPanel(t *testing.T) {
 	w := sliced(t)
-	w.Bench.Real, w.Firmware.Pos = [4]int{7, 8, 9, 3}, [4]int{0, 0, 0, 3}
+	w.Bench.Real, w.Firmware.Pos = position{7, 8, 9, 3}, position{4, 5, 6, 3}
 	homed := do(t, w, panel(api.CoHome))
 	if !homed.Firmware.Homed || homed.Bench.Real != (position{0, 0, 0, 3}) || homed.Firmware.Pos != homed.Bench.Real || len(journal.All(homed.Flash)) != 2 || homed.Device.Want != 1 {
 		t.Errorf("the world is %v", homed)
@@ -436,6 +439,68 @@ func TestRunIsItsSteps(t *testing.T) {
 				}
 			}
 		}
+	}
+}
+
+// P58.2: a line whose answer was lost is sent again, also the last one; and what is finished stays so.
+func TestLastLine(t *testing.T) {
+	w := do(t, sliced(t), step(api.WsFeed, 100), step(api.WsRun, 10000))
+	end := len(w.Host.Lines) + 1
+	if w.Host.Base != end || w.Device.Want != end {
+		t.Fatalf("the host is %v", w.Host)
+	}
+	lost := do(t, w, step(api.WsDoor))
+	lost.Host.Base = end - 1
+	if got := do(t, lost, step(api.WsRun, 1)); got.Host.Base != end-1 || got.Host.Next != end-1 {
+		t.Errorf("the host is %v", got.Host)
+	}
+	if got := do(t, lost, step(api.WsRun, 2)); got.Host.Base != end || got.Host.Next != end || got.Host.Sent != w.Host.Sent+1 {
+		t.Errorf("the host is %v", got.Host)
+	}
+	w.Host.Base, w.Host.Next = 1, 1
+	if got := do(t, w, step(api.WsOff, 2), step(api.WsOn)); got.Device.Want != end || got.Host.Base != end || got.Host.Next != end {
+		t.Errorf("the host is %v", got.Host)
+	}
+}
+
+// P58.2: a host that is not valid does nothing.
+func TestInvalidHost(t *testing.T) {
+	w := sliced(t)
+	w.Host.Window = 9
+	w.Net = []api.Packet{{Back: true, Text: "ok 1*21"}}
+	refuse(t, w, step(api.WsSend), api.ErrState)
+	for _, s := range []api.Step{step(api.WsTimeout), at(api.WsDeliver, 0), step(api.WsRun, 3)} {
+		if got := do(t, w, s); got.Host.Base != 1 || got.Host.Next != 1 || got.Host.Sent != 0 {
+			t.Errorf("step %v leads to the host %v", s, got.Host)
+		}
+	}
+}
+
+// P58.2 and rule 0.4: a world shares no memory with the one before it.
+func TestNewWorlds(t *testing.T) {
+	w := do(t, fresh(), box(40, 40, 0, 120, 80, 40), step(api.WsSlice), step(api.WsFeed, 1000))
+	for len(w.Bench.Layers) == 0 {
+		w = do(t, w, step(api.WsRun, 100))
+	}
+	w.Net = []api.Packet{{Text: "noise"}}
+	if len(w.Firmware.Queue) == 0 {
+		t.Fatalf("the world is %v", w)
+	}
+	given := fmt.Sprint(w)
+	got, _ := Do(w, step(api.WsDoor, 1))
+	got.Parts[0].Verts[0].X, got.Parts[0].Tris[0].A = -9, 9
+	got.Slices[0].Rows[0].Y, got.Slices[1].Rows[0].Runs[0].To = 9, 99
+	got.Program[0].S, got.Host.Lines[0], got.Net[0].Text = 9, "x", "x"
+	got.Firmware.Queue[0].Accel, got.Firmware.Lines[0] = 9, 9
+	got.Flash.Pages[0] = "x"
+	got.Bench.Layers[0].Rows[0].Y, got.Bench.Layers[0].Rows[0].Runs[0].To = 9, 99
+	if fmt.Sprint(w) != given {
+		t.Error("the worlds share memory")
+	}
+	got, _ = Do(w, step(99))
+	got.Parts[0], got.Slices[0], got.Bench.Layers[0] = api.Mesh{}, api.Region{}, api.Region{}
+	if fmt.Sprint(w) != given {
+		t.Error("the unchanged world shares memory")
 	}
 }
 

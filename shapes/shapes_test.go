@@ -285,7 +285,8 @@ func TestWrongTransformations(t *testing.T) {
 		{m, api.Vec{X: 1}, api.OK}, {m, api.Vec{X: 2}, api.ErrRange}, {m, api.Vec{X: -1}, api.ErrRange}, {m, api.Vec{Z: 1}, api.ErrRange},
 		{m, api.Vec{Y: edge - 5}, api.OK}, {m, api.Vec{Y: edge - 4}, api.ErrRange}, {m, api.Vec{Y: -edge}, api.OK}, {m, api.Vec{Y: -edge - 1}, api.ErrRange},
 		{m, api.Vec{Y: math.MaxInt}, api.ErrRange}, {m, api.Vec{Z: math.MaxInt}, api.ErrRange}, {m, api.Vec{X: math.MinInt}, api.ErrRange},
-		{api.Mesh{}, api.Vec{X: math.MaxInt, Y: math.MinInt}, api.OK},
+		{api.Mesh{}, api.Vec{X: math.MaxInt, Y: math.MinInt}, api.OK}, {api.Mesh{Verts: vecs(5, 5, 5)}, api.Vec{X: math.MaxInt}, api.ErrRange},
+		{api.Mesh{Verts: vecs(5, 5, 5)}, api.Vec{Y: math.MaxInt}, api.ErrRange}, {api.Mesh{Verts: vecs(5, 5, 5)}, api.Vec{Z: math.MaxInt}, api.ErrRange},
 	} {
 		if got, e := Move(q.m, q.d); e != q.e || e != api.OK && !mesh.Same(got, api.Mesh{}) {
 			t.Errorf("Move(%v, %v): error %d; want %d", q.m, q.d, e, q.e)

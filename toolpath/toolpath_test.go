@@ -116,7 +116,7 @@ func TestLayerErrors(t *testing.T) {
 		s    api.Settings
 		e    api.Errno
 	}{
-		{l, r, 255, api.Cell{X: edge - 1, Y: -edge}, settings(), api.OK},
+		{l, r, 255, api.Cell{X: edge - 1, Y: -edge}, settings(), api.OK}, {l, r, 0, api.Cell{X: -edge, Y: edge - 1}, settings(), api.OK}, {l, r, 0, api.Cell{Y: edge}, settings(), api.ErrArg},
 		{l, r, 256, api.Cell{}, settings(), api.ErrArg}, {l, r, -1, api.Cell{}, settings(), api.ErrArg}, {l, r, math.MaxInt, api.Cell{}, settings(), api.ErrArg},
 		{l, r, 0, api.Cell{X: edge}, settings(), api.ErrArg}, {l, r, 0, api.Cell{Y: -edge - 1}, settings(), api.ErrArg}, {l, r, 0, api.Cell{Y: math.MaxInt}, settings(), api.ErrArg},
 		{l, r, 0, api.Cell{}, api.Settings{}, api.ErrArg}, {l, invalid(), 0, api.Cell{}, settings(), api.ErrArg}, {[]api.Track{l[0], {}}, r, 0, api.Cell{}, settings(), api.ErrArg},
@@ -221,6 +221,39 @@ func TestPath(t *testing.T) {
 	}
 	if retracted < 30 {
 		t.Errorf("only %d travels are outside", retracted)
+	}
+}
+
+// P38.1: the order of a group is improved so often, and not more often.
+func TestRounds(t *testing.T) {
+	random := rand.New(rand.NewSource(39))
+	differ := 0
+	for range 40 {
+		var l []api.Track
+		for range 60 {
+			x, y := random.Intn(80), random.Intn(80)
+			l = append(l, wall(x, y, x+1, y, x+2, y))
+		}
+		want := order.Improve(api.Cell{}, order.Greedy(api.Cell{}, l), 8)
+		got, _, e := Layer(l, api.Region{}, 0, api.Cell{}, settings())
+		var printed []api.Track
+		for _, o := range got {
+			if o.Kind == api.OpPrint {
+				printed = append(printed, api.Track{Role: o.Role, Cells: o.Cells})
+			}
+		}
+		equal := func(a, b []api.Track) bool {
+			return slices.EqualFunc(a, b, func(p, q api.Track) bool { return slices.Equal(p.Cells, q.Cells) })
+		}
+		if e != api.OK || !equal(printed, want) {
+			t.Errorf("Layer prints %v, %d; want %v", printed, e, want)
+		}
+		if !equal(want, order.Improve(api.Cell{}, want, 1)) {
+			differ++
+		}
+	}
+	if differ == 0 {
+		t.Error("no order could be improved further")
 	}
 }
 

@@ -46,7 +46,7 @@ func zigzag(n int) api.Track {
 func invalid() []api.Track {
 	return []api.Track{
 		{}, {Role: api.RoWall}, {Role: api.RoWall, Closed: true}, {Role: 0, Cells: cells(0, 0)}, {Role: 8, Cells: cells(0, 0)}, {Role: -1, Cells: cells(0, 0)},
-		open(0, 0, 0, 0), open(0, 0, 1, 1), open(0, 0, 2, 0), open(0, 0, 0, -2), open(edge, 0), open(0, -edge-1), open(0, 0, 1, 0, 1, 2),
+		open(0, 0, 0, 0), open(0, 0, 1, 1), open(0, 0, 2, 0), open(0, 0, 0, -2), open(edge, 0), open(0, -edge-1), open(0, edge), open(-edge-1, 0), open(0, 0, 1, 0, 1, 2),
 		open(edge-1, 0, edge, 0), open(math.MinInt, 0), open(0, 0, math.MaxInt, 1), open(math.MaxInt, math.MinInt),
 		closed(0, 0, 1, 0, 2, 0), closed(0, 0, 1, 0, 1, 1), closed(0, 0, 1, 0, 0, 0), zigzag(api.MaxPath + 1),
 	}
@@ -138,6 +138,7 @@ func TestCorners(t *testing.T) {
 	}{
 		{open(0, 0, 1, 0, 1, 1, 0, 1), cells(0, 0, 1, 0, 1, 1, 0, 1)},
 		{open(0, 0, 1, 0, 2, 0), cells(0, 0, 2, 0)},
+		{open(0, 0, 0, 1, 0, 2, 1, 2), cells(0, 0, 0, 2, 1, 2)},
 		{open(4, 4), cells(4, 4)},
 		{closed(4, 4), cells(4, 4)},
 		{closed(0, 0, 1, 0), cells(0, 0, 1, 0)},
