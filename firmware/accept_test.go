@@ -287,15 +287,17 @@ func TestMove(t *testing.T) {
 		t.Errorf("while moving, the plan is %v", again.Queue)
 	}
 	// Between two blocks, the speed at which the next one begins is fixed.
-	between := homed(t)
-	for _, x := range []int{100, 200, 201} {
-		between = do(t, between, cmd(api.CoTravel, api.HasX, x))
-	}
-	for between = ticks(between, 1); between.Moving; between = ticks(between, 1) {
-	}
-	entry := between.Queue[0].Entry
-	if more := do(t, between, cmd(api.CoTravel, api.HasX, 900)); entry == 0 || more.Queue[0].Entry != entry || more.Queue[1].Exit == between.Queue[1].Exit {
-		t.Errorf("between two blocks, the plan is %v", more.Queue)
+	for _, ways := range [][]int{{100, 200, 201}, {100, 102}} {
+		between := homed(t)
+		for _, x := range ways {
+			between = do(t, between, cmd(api.CoTravel, api.HasX, x))
+		}
+		for between = ticks(between, 1); between.Moving; between = ticks(between, 1) {
+		}
+		entry, last := between.Queue[0].Entry, len(between.Queue)-1
+		if more := do(t, between, cmd(api.CoTravel, api.HasX, 900)); entry == 0 || more.Queue[0].Entry != entry || more.Queue[last].Exit == 0 {
+			t.Errorf("between two blocks, the plan is %v", more.Queue)
+		}
 	}
 	fast, _ := Begin(do(t, homed(t), cmd(api.CoTravel, api.HasX, 1000)))
 	fast.Motion.Block.Exit = fast.Motion.Block.Cruise

@@ -106,12 +106,14 @@ func TestNew(t *testing.T) {
 	}
 	badMachine, badControls, badGuards, faulty := m, c, g, g
 	badMachine.Ticks, badControls[1].Scale, badGuards[0].Watch, faulty[1].Fault = 0, 0, 0, api.FaHot
+	badControl, badGuard, stopped := c, g, g
+	badControl[0].Kp, badGuard[1].Idle, stopped[0].Fault = -1, 0, api.FaStop
 	for i, q := range []struct {
 		m    api.Machine
 		c    [2]api.Control
 		g    [2]api.Guard
 		cold int
-	}{{badMachine, c, g, 0}, {m, badControls, g, 0}, {m, c, badGuards, 0}, {m, c, faulty, 0}, {m, c, g, -1}, {m, c, g, 400001}, {api.Machine{}, [2]api.Control{}, [2]api.Guard{}, 0}} {
+	}{{badMachine, c, g, 0}, {m, badControls, g, 0}, {m, c, badGuards, 0}, {m, c, faulty, 0}, {m, badControl, g, 0}, {m, c, badGuard, 0}, {m, c, stopped, 0}, {m, c, g, -1}, {m, c, g, 400001}, {api.Machine{}, [2]api.Control{}, [2]api.Guard{}, 0}} {
 		if f, e := New(q.m, q.c, q.g, q.cold); e != api.ErrArg || !same(f, api.Firmware{}) {
 			t.Errorf("case %d: New = %v, %d", i, f, e)
 		}
